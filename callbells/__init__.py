@@ -1,0 +1,1 @@
+"""Callbells: interrupts led to processors that come and go."""

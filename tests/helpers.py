@@ -1,0 +1,52 @@
+"""What the tests of several files use."""
+
+import unittest
+
+from callbells.setups import Setup
+from callbells.single import Single
+
+NET = ("net", "edge", 5, (("run", 3), ("later", "flush")))
+DISK = ("disk", "edge", 7, (("run", 2),))
+HEAT = ("heat", "level", 2, (("run", 1), ("quiet", "heat")))
+FLUSH = ("flush", 2, 4)
+
+# Values that are no names, numbers, tuples of the kinds that are asked anywhere.
+ODD_VALUES = (None, True, False, 1.0, 5.5, "", "5", [], [5], ["net"], (), (5,), ("net",), -1, 10 ** 30)
+
+
+def usual():
+    """The set-up of the document's examples."""
+    return Setup((NET, DISK, HEAT), (FLUSH,))
+
+
+def edge(name, rank, *steps):
+    return (name, "edge", rank, tuple(steps))
+
+
+def level(name, rank, *steps):
+    return (name, "level", rank, tuple(steps))
+
+
+def single_of(*lines, works=()):
+    return Single(Setup(tuple(lines), works))
+
+
+def letters(count):
+    """Different names: a, b, c .."""
+    return ["abcdefghijklmnopqrstuvwxyz"[at] for at in range(count)]
+
+
+class Case(unittest.TestCase):
+    """Compares by repr, so that True is not 1 and a list is not a tuple."""
+
+    def same(self, value, expected):
+        self.assertEqual(repr(value), repr(expected))
+
+    def raises(self, error, call, *args, **told):
+        """The call raises exactly this class, with these attributes; returns the error."""
+        with self.assertRaises(error) as caught:
+            call(*args)
+        self.assertIs(caught.exception.__class__, error)
+        for name, value in told.items():
+            self.same(getattr(caught.exception, name), value)
+        return caught.exception
