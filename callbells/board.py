@@ -28,6 +28,7 @@ class Board:
         self._disabled = {name: False for name in setup.order}
         self._under_way = {name: False for name in setup.order}
         self._flags = [False for _ in range(Setup.MAX_FLAG + 1)]
+        self._merges = {name: 0 for name in setup.order}
 
     def copied_board(self):
         """Another board in the same state."""
@@ -36,6 +37,7 @@ class Board:
         board._disabled = dict(self._disabled)
         board._under_way = dict(self._under_way)
         board._flags = list(self._flags)
+        board._merges = dict(self._merges)
         return board
 
     def _check_line(self, line):
@@ -48,7 +50,10 @@ class Board:
     def ring(self, line):
         """Let a line ring; return "waits" or "merged"."""
         self._check_line(line)
-        return "waits" if put_changed(self._rung, line, True) else "merged"
+        if put_changed(self._rung, line, True):
+            return "waits"
+        self._merges[line] += 1
+        return "merged"
 
     def quiet(self, line):
         """Make a level low; return whether it was high."""
@@ -128,11 +133,15 @@ class Board:
         """The levels that are high, in order."""
         return [line for line in self._setup.order if self._rung[line] and not self._is_edge(line)]
 
+    def merge_counts(self):
+        """A dict from lines to how many of their rings, also those of steps, were merged."""
+        return dict(self._merges)
+
     def raised_flags(self):
         """The flags that are up, ascending."""
         return [flag for flag, is_up in enumerate(self._flags) if is_up]
 
     def board_state(self):
-        """All that changes, but for what the calls of the processors tell."""
+        """All that tells how it goes on, but for what the calls of the processors tell."""
         rung = [line for line in self._setup.order if self._rung[line]]
         return (tuple(rung), tuple(self.disabled_lines()), tuple(self.raised_flags()))

@@ -1,4 +1,6 @@
-"""What lines, works and steps may be, and which one of a set-up is spoilt."""
+"""What numbers, lines, works and steps may be, and which one of a set-up is spoilt."""
+
+from callbells.errors import InvalidNumber
 
 KINDS = ("edge", "level")
 MAX_LETTERS = 8
@@ -24,6 +26,12 @@ ARGUMENTS = {
 def is_integer(value, low, high):
     """Whether a value is an integer from low to high; a boolean is not one."""
     return isinstance(value, int) and not isinstance(value, bool) and low <= value <= high
+
+
+def check_number(value, low, high):
+    """Raise InvalidNumber for what is no integer from low to high."""
+    if not is_integer(value, low, high):
+        raise InvalidNumber(f"this number is an integer from {low} to {high}")
 
 
 def is_letters(word):

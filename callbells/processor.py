@@ -63,6 +63,17 @@ class Processor:
         """The numbers of ticks of calls, spun, of works, and idle."""
         return tuple(self._counts)
 
+    def add_spent(self, spent):
+        """Count ticks that were spent without having been played here."""
+        self._counts = [was + more for was, more in zip(self._counts, spent)]
+
+    def awaits_flag(self):
+        """Whether the innermost call awaits a flag that is down."""
+        if not self._stack:
+            return False
+        word, what = self._present_step()
+        return word == "await" and not self._board.is_up(what)
+
     def processor_state(self):
         """The bar, the calls with the bars that they have kept, and the works."""
         return (self._bar, tuple(self._stack), tuple(self._jobs.rows()))

@@ -1,7 +1,7 @@
 """Set-ups: the lines of a processor, their handlers, and works."""
 
 from callbells.checks import spoilt_handler, spoilt_line, spoilt_work
-from callbells.errors import InvalidSetup, UnknownLine
+from callbells.errors import InvalidSetup, NotPlain, UnknownLine
 from callbells.rows import read_rows, rows_text
 
 TOUCHING = ("ring", "quiet", "mask", "unmask")
@@ -107,3 +107,9 @@ def check_setup(lines, works):
     at = spoilt_handler(lines, works, Setup.MAX_FLAG)
     if at is not None:
         raise InvalidSetup("handlers", at)
+
+
+def check_plain(setup):
+    """Raise NotPlain for a set-up that is not plain."""
+    if not setup.is_plain:
+        raise NotPlain("this set-up has levels, steps other than run, or lines of one rank")

@@ -1,8 +1,7 @@
 """One processor with the lines of a set-up."""
 
 from callbells.board import Board
-from callbells.checks import is_integer
-from callbells.errors import InvalidNumber
+from callbells.checks import check_number
 from callbells.processor import Processor
 
 MOST_TICKS = 10000
@@ -21,8 +20,30 @@ class Single:
         return isinstance(other, Single) and self._setup == other._setup and self._told() == other._told()
 
     def _told(self):
-        state = (self._board.board_state(), self._processor.processor_state())
-        return (state, self._now, self._processor.spent_ticks())
+        return (self.state(), self._now, self._processor.spent_ticks())
+
+    def state(self):
+        """All that tells how it goes on, so neither the tick nor the spent ticks."""
+        return (self._board.board_state(), self._processor.processor_state())
+
+    def line_order(self):
+        """The names of all lines, in order."""
+        return self._setup.order
+
+    def awaits_flag(self):
+        """Whether the innermost call awaits a flag that is down."""
+        return self._processor.awaits_flag()
+
+    def merge_counts(self):
+        """A dict from lines to how many of their rings were merged."""
+        return self._board.merge_counts()
+
+    def moved_on(self, ticks, spent):
+        """Another one in the same state, so many ticks later, with so many more spent ticks."""
+        single = self.copied()
+        single._now += ticks
+        single._processor.add_spent(spent)
+        return single
 
     def copied(self):
         """Another one in the same state."""
@@ -66,8 +87,7 @@ class Single:
 
     def ticks(self, count):
         """Let a number of ticks go by; return the list of what happened, with the ticks."""
-        if not is_integer(count, 0, MOST_TICKS):
-            raise InvalidNumber(f"a number of ticks is an integer from 0 to {MOST_TICKS}")
+        check_number(count, 0, MOST_TICKS)
         events = []
         for _ in range(count):
             now = self._now

@@ -31,6 +31,25 @@ def single_of(*lines, works=()):
     return Single(Setup(tuple(lines), works))
 
 
+def plain(*rows):
+    """The plain set-up of rows (name, rank, ticks)."""
+    return Setup(tuple(edge(name, rank, ("run", ticks)) for name, rank, ticks in rows))
+
+
+class Dice:
+    """Numbers that look thrown and are the same in each run."""
+
+    def __init__(self, seed):
+        self.seed = seed
+
+    def below(self, count):
+        self.seed = (self.seed * 1103515245 + 12345) % 2 ** 31
+        return (self.seed >> 12) % count
+
+    def one_of(self, items):
+        return items[self.below(len(items))]
+
+
 def letters(count):
     """Different names: a, b, c .."""
     return ["abcdefghijklmnopqrstuvwxyz"[at] for at in range(count)]
