@@ -33,12 +33,16 @@ class Board:
     def copied_board(self):
         """Another board in the same state."""
         board = Board(self._setup)
-        board._rung = dict(self._rung)
-        board._disabled = dict(self._disabled)
-        board._under_way = dict(self._under_way)
-        board._flags = list(self._flags)
-        board._merges = dict(self._merges)
+        board.take_over(self)
         return board
+
+    def take_over(self, other):
+        """Take over what holds on another board of the same set-up."""
+        self._rung = dict(other._rung)
+        self._disabled = dict(other._disabled)
+        self._under_way = dict(other._under_way)
+        self._flags = list(other._flags)
+        self._merges = dict(other._merges)
 
     def _check_line(self, line):
         if line not in self._setup:
@@ -112,6 +116,14 @@ class Board:
         """Whether a flag is up."""
         return self._flags[flag]
 
+    def is_enabled(self, line):
+        """Whether a line is enabled."""
+        return not self._disabled[line]
+
+    def is_high(self, line):
+        """Whether a line is a level that is high."""
+        return self._rung[line] and not self._is_edge(line)
+
     def waits(self, line):
         """Whether a line waits."""
         return self._rung[line] and (self._is_edge(line) or not self._under_way[line])
@@ -122,7 +134,7 @@ class Board:
 
     def ready_lines(self):
         """The lines that wait, are enabled and have no call, in order."""
-        enabled = [line for line in self.waiting_lines() if not self._disabled[line]]
+        enabled = [line for line in self.waiting_lines() if self.is_enabled(line)]
         return [line for line in enabled if not self._under_way[line]]
 
     def disabled_lines(self):
@@ -131,7 +143,7 @@ class Board:
 
     def high_lines(self):
         """The levels that are high, in order."""
-        return [line for line in self._setup.order if self._rung[line] and not self._is_edge(line)]
+        return [line for line in self._setup.order if self.is_high(line)]
 
     def merge_counts(self):
         """A dict from lines to how many of their rings, also those of steps, were merged."""

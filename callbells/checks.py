@@ -83,28 +83,28 @@ def is_step(step, kinds, works, max_flag):
     return what in kinds and (asked == "line" or kinds[what] == asked)
 
 
+def spoilt_named(rows, most, is_formed):
+    """The index of the first row that is not formed so, repeats a name or is too many, or None."""
+    names = []
+    for at, row in enumerate(rows):
+        if at == most or not is_formed(row) or row[0] in names:
+            return at
+        names.append(row[0])
+    return None
+
+
 def spoilt_line(lines, most):
     """The index of the first line that is spoilt, whatever is in its handler, or None."""
     if not isinstance(lines, tuple) or not lines:
         return 0
-    names = []
-    for at, line in enumerate(lines):
-        if at == most or not is_line(line) or line[0] in names:
-            return at
-        names.append(line[0])
-    return None
+    return spoilt_named(lines, most, is_line)
 
 
 def spoilt_work(works, most):
     """The index of the first work that is spoilt, or None."""
     if not isinstance(works, tuple):
         return 0
-    names = []
-    for at, work in enumerate(works):
-        if at == most or not is_work(work) or work[0] in names:
-            return at
-        names.append(work[0])
-    return None
+    return spoilt_named(works, most, is_work)
 
 
 def spoilt_handler(lines, works, max_flag):

@@ -59,6 +59,13 @@ class Processor:
         """The list of tuples (work, ticks)."""
         return self._jobs.rows()
 
+    def hand_over_works(self, other):
+        """Queue all works on another processor, in the order in which they are first."""
+        moving = self._jobs.rows()
+        self._jobs.drop_rows()
+        for work, ticks in moving:
+            other._jobs.put(work, ticks)
+
     def spent_ticks(self):
         """The numbers of ticks of calls, spun, of works, and idle."""
         return tuple(self._counts)

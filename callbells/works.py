@@ -21,13 +21,17 @@ class WorkQueue:
         """Whether no work is queued."""
         return not self._rows
 
-    def put(self, work):
-        """Queue a work, unless it is queued and no tick was spent on it yet."""
-        if (work, 0) in self._rows:
+    def put(self, work, ticks=0):
+        """Queue a work with ticks spent on it, unless none are and it is queued so already."""
+        if ticks == 0 and (work, 0) in self._rows:
             return
         rank = self._ranks[work]
         ahead = [name for name, _ in self._rows if self._ranks[name] >= rank]
-        self._rows.insert(len(ahead), (work, 0))
+        self._rows.insert(len(ahead), (work, ticks))
+
+    def drop_rows(self):
+        """Let no work be queued any more."""
+        self._rows = []
 
     def spend(self):
         """Spend a tick on the first work; return it if it is done by this, otherwise None."""

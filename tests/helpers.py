@@ -2,6 +2,7 @@
 
 import unittest
 
+from callbells.houses import House
 from callbells.setups import Setup
 from callbells.single import Single
 
@@ -53,6 +54,27 @@ class Dice:
 def letters(count):
     """Different names: a, b, c .."""
     return ["abcdefghijklmnopqrstuvwxyz"[at] for at in range(count)]
+
+
+def house_of(count, *lines, works=(), routes=(), storms=()):
+    return House(Setup(tuple(lines), works), count, routes=routes, storms=storms)
+
+
+def rung(target, *lines):
+    """The processor or house behind rings of lines."""
+    for line in lines:
+        target.ring(line)
+    return target
+
+
+def told(house):
+    """All that a house tells of itself."""
+    processors = [house[at] for at in range(house.processor_count)]
+    names = [line[0] for line in house.setup.lines]
+    lines = [(house(name), house.ring_of(name)) for name in names]
+    fates = [house.fate(number) for number in range(len(house.rings))]
+    counts = (house.begin_counts, house.done_counts, len(house))
+    return (house.now, house.flags_up, processors, lines, house.log, house.rings, fates, counts)
 
 
 class Case(unittest.TestCase):

@@ -4,16 +4,9 @@ import unittest
 
 from callbells.single import Single
 
-from helpers import Case, edge, level, single_of, usual
+from helpers import Case, edge, level, rung, single_of, usual
 
 RUN = ("run", 1)
-
-
-def rung(single, *lines):
-    """The processor behind rings of lines."""
-    for line in lines:
-        single.ring(line)
-    return single
 
 
 class BeginTest(Case):
