@@ -83,6 +83,16 @@ def is_step(step, kinds, works, max_flag):
     return what in kinds and (asked == "line" or kinds[what] == asked)
 
 
+def spoilt_item(rows, most, is_formed):
+    """The index of the first item that is not formed so or is too many, 0 for no tuple, or None."""
+    if not isinstance(rows, tuple):
+        return 0
+    for at, row in enumerate(rows):
+        if at == most or not is_formed(row):
+            return at
+    return None
+
+
 def spoilt_named(rows, most, is_formed):
     """The index of the first row that is not formed so, repeats a name or is too many, or None."""
     names = []

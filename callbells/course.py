@@ -1,5 +1,6 @@
 """The course of a processor whose lines are rung by bells, up to where it repeats."""
 
+from callbells.recurrence import Recurrence, ticks_until
 from callbells.single import Single
 
 # The first tick and the length of the repetition come to no more than this.
@@ -9,17 +10,11 @@ MOST_TICKS = 20000
 STRIDE = 100
 
 
-def ticks_until(bell, tick):
-    """How many ticks later a bell rings next, 0 if it rings ahead of this very tick."""
-    _, first, period = bell
-    return first - tick if tick < first else (first - tick) % period
-
-
 def ring_and_tick(single, bells):
     """Let the bells ring that ring now, and a tick go by; return what happened in it."""
-    for bell in bells:
-        if ticks_until(bell, single.now) == 0:
-            single.ring(bell[0])
+    for line, first, period in bells:
+        if ticks_until(first, period, single.now) == 0:
+            single.ring(line)
     return single.tick()
 
 
@@ -31,19 +26,18 @@ class Course:
         self._begin_ticks = {name: [] for name in setup.order}
         self._merge_ticks = {name: [] for name in setup.order}
         self._marks = []
-        self._first = 0
-        # 0 as long as no repetition is found.
-        self._length = 0
+        # None as long as no repetition is found.
+        self._recurrence = None
         self._gained = (0, 0, 0, 0)
         self._play(Single(setup))
 
     def is_too_long(self):
         """Whether nothing is repeated within the ticks that are tried."""
-        return self._length == 0
+        return self._recurrence is None
 
     def repeated(self):
         """The first tick of the repetition, and its length."""
-        return (self._first, self._length)
+        return self._recurrence.told_pair()
 
     def gained_ticks(self):
         """The numbers of ticks of one repetition: of calls, spun, of works, and idle."""
@@ -51,28 +45,21 @@ class Course:
 
     def begins_within(self, line, count):
         """How many calls of a line begin in the first so many ticks."""
-        return self._count_within(self._begin_ticks[line], count)
+        return self._recurrence.count_within(self._begin_ticks[line], count)
 
     def merges_within(self, line, count):
         """How many rings of a line are merged in the first so many ticks."""
-        return self._count_within(self._merge_ticks[line], count)
+        return self._recurrence.count_within(self._merge_ticks[line], count)
 
     def begin_tick(self, line, number):
         """The tick in which a line begins for the time with this number, from 1, or None."""
-        ticks = self._begin_ticks[line]
-        if number <= len(ticks):
-            return ticks[number - 1]
-        recurring = self._recurring(ticks)
-        if not recurring:
-            return None
-        turns, at = divmod(number - 1 - len(ticks), len(recurring))
-        return recurring[at] + (turns + 1) * self._length
+        return self._recurrence.tick_of(self._begin_ticks[line], number)
 
     def single_behind(self, count):
         """The processor behind so many ticks."""
-        turns, played = self._folded(count)
+        turns, played = self._recurrence.folded(count)
         more = [turns * ticks for ticks in self._gained]
-        return self._played_single(played).moved_on(turns * self._length, more)
+        return self._played_single(played).moved_on(count - played, more)
 
     def _play(self, single):
         seen = {}
@@ -82,13 +69,13 @@ class Course:
             self._note_tick(single)
             ahead = self._all_ahead(single)
         if ahead in seen:
-            self._first = seen[ahead]
-            self._length = single.now - self._first
-            early = self._played_single(self._first).spent
+            first = seen[ahead]
+            self._recurrence = Recurrence(first, single.now - first)
+            early = self._played_single(first).spent
             self._gained = tuple([late - was for late, was in zip(single.spent, early)])
 
     def _all_ahead(self, single):
-        distances = [ticks_until(bell, single.now) for bell in self._bells]
+        distances = [ticks_until(first, period, single.now) for _, first, period in self._bells]
         return (single.state(), tuple(distances))
 
     def _note_tick(self, single):
@@ -108,17 +95,3 @@ class Course:
         for _ in range(tick % STRIDE):
             ring_and_tick(single, self._bells)
         return single
-
-    def _folded(self, count):
-        """How many times the repetition can be taken out of a number of ticks, and the rest."""
-        if count < self._first:
-            return (0, count)
-        turns, rest = divmod(count - self._first, self._length)
-        return (turns, self._first + rest)
-
-    def _recurring(self, ticks):
-        return [tick for tick in ticks if tick >= self._first]
-
-    def _count_within(self, ticks, count):
-        turns, played = self._folded(count)
-        return len([tick for tick in ticks if tick < played]) + turns * len(self._recurring(ticks))

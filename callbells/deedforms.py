@@ -1,5 +1,9 @@
 """The forms of deeds, and how one is done."""
 
+from callbells.checks import check_number
+
+MOST_TICKS = 1000
+
 # How many values stand behind the word of each deed.
 VALUES = {
     "ring": 1,
@@ -47,3 +51,18 @@ def do_deed(house, deed):
     if word == "come":
         return house.come(what)
     return house.move(what, more[0])
+
+
+def is_act(act):
+    """Whether a value is formed as a deed without its tick, or as ("tick", count)."""
+    if is_deed(act):
+        return True
+    return isinstance(act, tuple) and len(act) == 2 and act[0] == "tick"
+
+
+def do_act(house, act):
+    """Do a deed, or let a number of ticks go by; return its result."""
+    if act[0] != "tick":
+        return do_deed(house, act)
+    check_number(act[1], 0, MOST_TICKS)
+    return house.ticks(act[1])

@@ -1,12 +1,10 @@
 """Houses played by lists of deeds, and logs judged by them."""
 
 from callbells.checks import check_number, is_integer
-from callbells.deedforms import LINE_WORDS, do_deed, do_line_deed, is_deed
+from callbells.deedforms import LINE_WORDS, MOST_TICKS, do_deed, do_line_deed, is_deed
 from callbells.errors import BellError, InvalidDeed, UnknownLine
 from callbells.setups import Setup
 from callbells.single import Single
-
-MOST_TICKS = 1000
 
 # What stands behind the tick in events of each form.
 NAMED_EVENTS = ("place", "begin", "end", "done", "moved")

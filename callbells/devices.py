@@ -2,7 +2,7 @@
 
 from math import gcd
 
-from callbells.checks import check_number, is_integer
+from callbells.checks import check_number, is_integer, spoilt_item
 from callbells.course import Course
 from callbells.errors import InvalidBell, TooMany, UnknownLine
 
@@ -22,12 +22,7 @@ def is_bell(setup, bell):
 
 def spoilt_bell(setup, bells):
     """The index of the first bell that is spoilt, or None."""
-    if not isinstance(bells, tuple):
-        return 0
-    for at, bell in enumerate(bells):
-        if at == MAX_BELLS or not is_bell(setup, bell):
-            return at
-    return None
+    return spoilt_item(bells, MAX_BELLS, lambda bell: is_bell(setup, bell))
 
 
 def lowest_terms(part, whole):

@@ -26,8 +26,8 @@ class House:
         self._watch = StormWatch(storms)
         self._states = ["on"] * count
         self._processors = [Processor(setup, self._board) for _ in range(count)]
-        self._begun = {line[0]: 0 for line in setup.lines}
-        self._done = {work[0]: 0 for work in setup.works}
+        self._begin_totals = {line[0]: 0 for line in setup.lines}
+        self._done_totals = {work[0]: 0 for work in setup.works}
         self._events = []
 
     def as_at_first(self):
@@ -43,8 +43,8 @@ class House:
         house._watch.copy_watch(self._watch)
         house._states = list(self._states)
         house._processors = [processor.copied_onto(board) for processor in self._processors]
-        house._begun = dict(self._begun)
-        house._done = dict(self._done)
+        house._begin_totals = dict(self._begin_totals)
+        house._done_totals = dict(self._done_totals)
         house._events = list(self._events)
         return house
 
@@ -212,12 +212,12 @@ class House:
     @property
     def begin_counts(self):
         """A dict from lines to how often they have begun."""
-        return dict(self._begun)
+        return dict(self._begin_totals)
 
     @property
     def done_counts(self):
         """A dict from works to how often they are done."""
-        return dict(self._done)
+        return dict(self._done_totals)
 
     @property
     def log(self):
@@ -264,9 +264,9 @@ class House:
         for word, what in events:
             self._events.append((word, now, what, processor))
             if word == "done":
-                self._done[what] += 1
+                self._done_totals[what] += 1
             elif word == "begin":
-                self._begun[what] += 1
+                self._begin_totals[what] += 1
                 if self._watch.note_begin(what, now):
                     self._events.append(("held", now, what))
 

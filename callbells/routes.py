@@ -28,7 +28,7 @@ class Router:
     """Where lines are placed next."""
 
     def __init__(self, setup, count, routes):
-        everywhere = tuple(list(range(count)))
+        everywhere = tuple(range(count))
         self._rules = {name: "first" for name in setup.order}
         self._stops = {name: everywhere for name in setup.order}
         for line, rule, processors in routes:

@@ -2,7 +2,7 @@
 
 from callbells.checks import spoilt_handler, spoilt_line, spoilt_work
 from callbells.errors import InvalidSetup, NotPlain, UnknownLine
-from callbells.rows import read_rows, rows_text
+from callbells.rows import read_setup, rows_text, setup_rows
 
 TOUCHING = ("ring", "quiet", "mask", "unmask")
 
@@ -25,7 +25,7 @@ class Setup:
     @classmethod
     def parse(cls, text):
         """The set-up of a text."""
-        lines, works = read_rows(text)
+        lines, works = read_setup(setup_rows(text))
         return cls(lines, works)
 
     def __len__(self):

@@ -10,7 +10,7 @@ BEGINS = 3
 PLACES = 4
 
 
-def put(items, at, value):
+def with_item(items, at, value):
     """A tuple with another item at an index."""
     return (*items[:at], value, *items[at + 1:])
 
@@ -92,20 +92,20 @@ class Weave:
         waits, masked, flags, begins, places = state
         calls, bar, works = places[processor]
         place = ((*calls, (at, 0, bar)), bar, works)
-        counts = put(begins, at, begins[at] + 1)
-        return (put(waits, at, False), masked, flags, counts, put(places, processor, place))
+        counts = with_item(begins, at, begins[at] + 1)
+        return (with_item(waits, at, False), masked, flags, counts, with_item(places, processor, place))
 
     def _stepped(self, state, processor):
         """The state behind the next step of the innermost call of a processor."""
         places = state[PLACES]
         word, what = self._next_step(places[processor])
-        following = put(state, PLACES, put(places, processor, self._place_behind(places[processor])))
+        following = with_item(state, PLACES, with_item(places, processor, self._place_behind(places[processor])))
         effect = effect_of(word)
         if effect is None:
             return following
         part, value = effect
         at = what if part == FLAGS else self._indexes[what]
-        return put(following, part, put(following[part], at, value))
+        return with_item(following, part, with_item(following[part], at, value))
 
     def _place_behind(self, place):
         """The calls, bar and works behind the next step of the innermost call."""
@@ -126,4 +126,4 @@ class Weave:
         ranks = [self._work_ranks[work] for work in works]
         first = ranks.index(max(ranks))
         place = (calls, bar, (*works[:first], *works[first + 1:]))
-        return put(state, PLACES, put(state[PLACES], processor, place))
+        return with_item(state, PLACES, with_item(state[PLACES], processor, place))

@@ -1,6 +1,6 @@
 """Weavings: what rings lead to if processors are as fast or as slow as they like."""
 
-from callbells.checks import check_number, is_integer
+from callbells.checks import check_number, is_integer, spoilt_item
 from callbells.errors import InvalidMove, InvalidRings, NotEdges, TooMany
 from callbells.setups import Setup
 from callbells.weave import Weave
@@ -67,16 +67,14 @@ def check_weaving(setup, count, rings):
     if not all([line[1] == "edge" for line in setup.lines]):
         raise NotEdges("all lines of a weaving are edges")
     check_number(count, 1, MAX_PROCESSORS)
-    if not isinstance(rings, tuple):
-        raise InvalidRings(0)
-    for at, line in enumerate(rings):
-        if at == MAX_RINGS or line not in setup:
-            raise InvalidRings(at)
+    at = spoilt_item(rings, MAX_RINGS, lambda line: line in setup)
+    if at is not None:
+        raise InvalidRings(at)
 
 
 def is_one_of(move, possible):
     """Whether a value is one of these moves; True is not the processor 1."""
-    return isinstance(move, tuple) and move in possible and is_integer(move[-1], 0, MAX_PROCESSORS)
+    return move in possible and is_integer(move[-1], 0, MAX_PROCESSORS)
 
 
 def ends_alone(setup, count, rings):

@@ -67,6 +67,15 @@ def rung(target, *lines):
     return target
 
 
+def until_next(bell, tick):
+    """How many ticks later a bell or clock rings next, counted one by one."""
+    _, first, period = bell
+    later = 0
+    while tick + later < first or (tick + later - first) % period:
+        later += 1
+    return later
+
+
 def told(house):
     """All that a house tells of itself."""
     processors = [house[at] for at in range(house.processor_count)]

@@ -7,7 +7,7 @@ from callbells.errors import InvalidBell, InvalidNumber, TooMany, UnknownLine
 from callbells.setups import Setup
 from callbells.single import Single
 
-from helpers import ODD_VALUES, Case, Dice, edge, letters, level, usual
+from helpers import ODD_VALUES, Case, Dice, edge, letters, level, until_next, usual
 
 RUN = ("run", 1)
 FAR = 10 ** 18
@@ -60,15 +60,6 @@ def played(setup, bells, count):
 def told(single):
     """All that is told of the state of a processor."""
     return (single.waiting, single.calls, single.queue, single.flags_up, single.bar, single.masked, single.highs)
-
-
-def until_next(bell, tick):
-    """How many ticks later a bell rings next, counted one by one."""
-    _, first, period = bell
-    later = 0
-    while tick + later < first or (tick + later - first) % period:
-        later += 1
-    return later
 
 
 def first_repetition(setup, bells):

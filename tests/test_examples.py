@@ -30,7 +30,7 @@ def told_error(text):
 class ExamplesTest(unittest.TestCase):
     def test_examples(self):
         examples = read_examples()
-        self.assertEqual(len(examples), 54)
+        self.assertEqual(len(examples), 69)
         for before, last, expected in examples:
             with self.subTest(last=last, expected=expected):
                 self.run_example(before, last, expected)

@@ -255,6 +255,19 @@ class CopyTest(Case):
         self.go_on(house)
         self.same(repr(told(copy)), later)
 
+    def test_placed_and_held_lines(self):
+        house = rung(house_of(2, edge("a", 5, ("set", 0)), edge("b", 4, RUN), storms=(("a", 1, 3, 9),)), "a", "b")
+        house.move("b", 1)
+        house.mask("b")
+        house.tick()
+        rung(house, "a").tick()
+        rung(house, "a")
+        copy = house.copied()
+        self.same([copy("a"), copy("b"), copy.fate(1)], [(True, False, True, None, None, 10), (False, False, True, 1, None, None), ("waits", 1)])
+        house.move("a", 1)
+        house.move("b", 0)
+        self.same([copy("a")[3], copy("b")[3], copy == house], [None, 1, False])
+
     def test_a_copy_at_each_tick(self):
         house = self.busy()
         copies = []

@@ -5,6 +5,7 @@ import unittest
 
 from callbells.errors import InvalidMove, InvalidNumber, InvalidRings, NotEdges, TooMany
 from callbells.setups import Setup
+from callbells.weave import Weave
 from callbells.weaving import needless_steps, play_weaving, weaving_ends
 
 from helpers import ODD_VALUES, Case, Dice, edge, letters, usual
@@ -113,12 +114,25 @@ def searched(setup, count, rings, most):
     return sorted(ends.items()), len(seen)
 
 
-def thrown_weaving(dice):
+def states(setup, count, rings):
+    """All states, as they stand for each other in the program."""
+    weave = Weave(setup, count)
+    found = [weave.first_state(rings)]
+    for state in found:
+        for move in weave.moves_from(state):
+            if weave.state_behind(state, move) not in found:
+                found.append(weave.state_behind(state, move))
+    return found
+
+
+def thrown_weaving(dice, works_alone=False):
     names = letters(1 + dice.below(3))
     works = tuple([(name, 1 + dice.below(3), 1 + dice.below(4)) for name in letters(dice.below(3))])
     lines = []
     for name in names:
         steps = [thrown_step(dice, names, [], [work[0] for work in works]) for _ in range(1 + dice.below(3))]
+        if works_alone and works:
+            steps = [("later", dice.one_of(works)[0]) for _ in steps]
         lines.append(edge(name, 1 + dice.below(9), *steps))
     rings = tuple([dice.one_of(names) for _ in range(dice.below(4))])
     return Setup(tuple(reversed(lines)), works), 1 + dice.below(2), rings
@@ -138,6 +152,30 @@ class EndsTest(Case):
                     self.same(play_weaving(setup, count, rings, moves), end)
                     kinds.add((end[0], len(ends) > 1))
         self.assertEqual(kinds, {("rest", False), ("rest", True), ("stuck", False), ("stuck", True)})
+
+    def test_the_states_against_all_moves(self):
+        # Works do nothing, so their order is seen by the states alone.
+        dice = Dice(18)
+        counts = []
+        for _ in range(150):
+            setup, count, rings = thrown_weaving(dice, works_alone=dice.below(2) == 0)
+            found = searched(setup, count, rings, 150)
+            if found is not None:
+                self.same(len(states(setup, count, rings)), found[1])
+                counts.append(found[1])
+        self.assertGreater(max(counts), 100)
+
+    def test_works_are_done_one_by_one(self):
+        handler = (("later", "x"), ("later", "y"), ("later", "z"))
+        for ranks in ((3, 2, 1), (1, 2, 3), (1, 1, 1)):
+            works = tuple([(name, rank, 9) for name, rank in zip("xyz", ranks)])
+            moves = [("begin", "a", 0)] + [("step", 0)] * 6
+            self.same(weaving_ends(Setup((edge("a", 5, *handler),), works), 1, ("a",)), [(("rest", (), (1,)), moves)])
+
+    def test_the_greatest_flag(self):
+        setup = Setup((edge("a", 5, ("await", 7)), edge("b", 6, ("set", 7))))
+        self.same([end for end, _ in weaving_ends(setup, 1, ("a",))], [("stuck", (0,))])
+        self.same([end for end, _ in weaving_ends(setup, 1, ("a", "b"))], [("rest", (7,), (1, 1))])
 
     def test_nothing_rings(self):
         self.same(weaving_ends(PAIR, 3, ()), [(("rest", (), (0, 0)), [])])
@@ -190,6 +228,10 @@ class EndsTest(Case):
     def test_masked_lines_wait(self):
         lines = (edge("a", 2, ("mask", "b")), edge("b", 1, ("unmask", "b")))
         self.same([end for end, _ in weaving_ends(Setup(lines), 1, ("a", "b"))], [("rest", (), (1, 0)), ("rest", (), (1, 1))])
+
+    def test_lines_are_enabled_again(self):
+        lines = (edge("a", 2, ("mask", "c"), ("ring", "c"), ("ring", "b")), edge("b", 1, ("unmask", "c")), edge("c", 1, RUN))
+        self.same([end for end, _ in weaving_ends(Setup(lines), 1, ("a",))], [("rest", (), (1, 1, 1))])
 
     def test_one_call_of_a_line(self):
         setup = Setup((edge("a", 2, ("ring", "a"), ("await", 0)),))
@@ -360,6 +402,8 @@ class ErrorsTest(Case):
             self.wrong(InvalidRings, PAIR, 1, ("a", "b", line, line), index=2)
         self.wrong(InvalidRings, PAIR, 1, ("a",) * 7, index=6)
         self.wrong(InvalidRings, PAIR, 1, ("a",) * 5 + ("c", "a"), index=5)
+        for rings in (["a"], "a", None, {"a": 1}):
+            self.wrong(InvalidRings, PAIR, 1, rings, index=0)
         self.same(len(weaving_ends(PAIR, 1, ("a",) * 6)), 1)
 
     def test_too_many_comes_last(self):
