@@ -93,11 +93,12 @@ def spoilt_item(rows, most, is_formed):
     return None
 
 
-def spoilt_named(rows, most, is_formed):
-    """The index of the first row that is not formed so, repeats a name or is too many, or None."""
+def spoilt_named(rows, most, forms):
+    """The index of the first row that is not formed, repeats a name or is too many, or None."""
+    # Which rows are formed comes as truths: an operator calls nothing that is passed on to here.
     names = []
     for at, row in enumerate(rows):
-        if at == most or not is_formed(row) or row[0] in names:
+        if at == most or not forms[at] or row[0] in names:
             return at
         names.append(row[0])
     return None
@@ -107,14 +108,14 @@ def spoilt_line(lines, most):
     """The index of the first line that is spoilt, whatever is in its handler, or None."""
     if not isinstance(lines, tuple) or not lines:
         return 0
-    return spoilt_named(lines, most, is_line)
+    return spoilt_named(lines, most, [is_line(line) for line in lines])
 
 
 def spoilt_work(works, most):
     """The index of the first work that is spoilt, or None."""
     if not isinstance(works, tuple):
         return 0
-    return spoilt_named(works, most, is_work)
+    return spoilt_named(works, most, [is_work(work) for work in works])
 
 
 def spoilt_handler(lines, works, max_flag):

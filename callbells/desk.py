@@ -8,11 +8,11 @@ class Block:
     """What a desk was at the beginning of a block, and the block around it."""
 
     def __init__(self, present, past, future, outer):
+        # None as soon as the block is kept: then there is nothing to go back to at its end.
         self.present = present
         self.past = past
         self.future = future
         self.outer = outer
-        self.is_kept = False
 
 
 class Desk:
@@ -31,7 +31,7 @@ class Desk:
         return self
 
     def __exit__(self, kind, value, trace):
-        if not self._block.is_kept:
+        if self._block.present is not None:
             self._present = self._block.present
             self._past = self._block.past
             self._future = self._block.future
@@ -91,7 +91,7 @@ class Desk:
     def keep(self):
         """Let everything remain as it is at the end of the present block."""
         if self._block is not None:
-            self._block.is_kept = True
+            self._block.present = None
 
 
 def tried(desk, deeds, *, is_kept=False):

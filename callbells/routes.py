@@ -21,7 +21,7 @@ def spoilt_route(setup, count, routes):
     """The index of the first route that is spoilt, -1 for what is no tuple, or None."""
     if not isinstance(routes, tuple):
         return -1
-    return spoilt_named(routes, len(setup), lambda route: is_route(setup, count, route))
+    return spoilt_named(routes, len(setup), [is_route(setup, count, route) for route in routes])
 
 
 class Router:

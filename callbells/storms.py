@@ -17,7 +17,7 @@ def spoilt_storm(setup, storms):
     """The index of the first storm that is spoilt, -1 for what is no tuple, or None."""
     if not isinstance(storms, tuple):
         return -1
-    return spoilt_named(storms, len(setup), lambda storm: is_storm(setup, storm))
+    return spoilt_named(storms, len(setup), [is_storm(setup, storm) for storm in storms])
 
 
 class StormWatch:

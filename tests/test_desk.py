@@ -282,6 +282,15 @@ class BlockTest(DeskCase):
             self.change(other)
             self.same(all_of(desk), all_of(other))
 
+    def test_a_block_that_is_kept_twice(self):
+        desk, other = self.desk(), self.desk()
+        with desk:
+            desk.keep()
+            self.change(desk)
+            desk.keep()
+        self.change(other)
+        self.same(all_of(desk), all_of(other))
+
     def test_kept_blocks_with_an_error(self):
         desk, other = self.desk(), self.desk()
         with self.assertRaises(KeyError):
